@@ -24,9 +24,10 @@ func (s *Sale) newOrder(r api.Request) order {
 	return order{number: s.last, customer: r.Customer, units: r.Units}
 }
 
-// move brings an order into another state. Every change of a state goes this
-// way, so that the queue and the ledger cannot fall behind.
-func (s *Sale) move(o order, state int) {
+// move brings an order into another state, and tells it as it is then. Every
+// change of a state goes this way, so that the queue, the ledger and the
+// timers cannot fall behind.
+func (s *Sale) move(o order, state int) order {
 	if o.state == api.Waiting {
 		s.queue.remove(o)
 	}
@@ -36,15 +37,29 @@ func (s *Sale) move(o order, state int) {
 	if o.state == api.Waiting {
 		s.queue.add(o)
 	}
+	o.until = s.clock + s.span(state)
+	s.timers.Unset(o.number) // a new order has none, nor has one whose timer just went off
+	s.timers.Set(o.number, o.until)
 	s.orders.put(o)
+	return o
+}
+
+// span is how long an order stays in a state if nothing is sent; one that has
+// ended stays until it is forgotten.
+func (s *Sale) span(state int) int {
+	switch state {
+	case api.Held:
+		return s.config.Lease
+	case api.Waiting:
+		return s.config.Wait
+	}
+	return s.config.Keep
 }
 
 // hold makes an order Held.
 func (s *Sale) hold(o order) order {
 	o.cents = s.price()
-	o.until = s.clock + s.config.Lease
-	s.move(o, api.Held)
-	return o
+	return s.move(o, api.Held)
 }
 
 // promote is the promotion. Each turn takes an order out of the queue, so that

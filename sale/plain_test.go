@@ -8,22 +8,85 @@ import (
 	"sale/sale"
 )
 
-// plain is a sale told in the plainest way, while its clock is 0: all orders
-// are there, and whatever is asked is counted anew.
+// plain is a sale told in the plainest way: all orders and answers stay there,
+// and whatever is asked is counted anew.
 type plain struct {
-	c      api.Config
-	orders []*plainOrder // the first is number 1
-	frames map[int]string
-	told   map[int]api.Reply
+	c       api.Config
+	clock   int
+	orders  []*plainOrder       // the first is number 1
+	answers map[int]plainAnswer // by token, the last that was given
 }
 
 type plainOrder struct {
 	customer, units, state, cents, until int
+	ended                                int // when, if it has
+}
+
+type plainAnswer struct {
+	frame string
+	reply api.Reply
+	given int
 }
 
 func newPlain(c api.Config) *plain {
 	c.Prices = append([]api.Tier(nil), c.Prices...)
-	return &plain{c: c, frames: map[int]string{}, told: map[int]api.Reply{}}
+	return &plain{c: c, answers: map[int]plainAnswer{}}
+}
+
+func (m *plain) remembers(token int) bool {
+	a, given := m.answers[token]
+	return given && m.clock-a.given < m.c.Keep
+}
+
+func (m *plain) remembered() int {
+	n := 0
+	for token := range m.answers {
+		if m.remembers(token) {
+			n++
+		}
+	}
+	return n
+}
+
+func (m *plain) end(o *plainOrder, state int) {
+	o.state, o.ended = state, m.clock
+}
+
+// nextUntil is the first Until of an order that is Held or Waiting, MaxInt if
+// there is none.
+func (m *plain) nextUntil() int {
+	next := math.MaxInt
+	for _, o := range m.orders {
+		if o.state == api.Held || o.state == api.Waiting {
+			next = min(next, o.until)
+		}
+	}
+	return next
+}
+
+// endAll ends all orders in a state whose Until is now.
+func (m *plain) endAll(from, into int) {
+	for _, o := range m.orders {
+		if o.state == from && o.until == m.clock {
+			m.end(o, into)
+		}
+	}
+}
+
+func (m *plain) tick(n int) (int, api.Errno) {
+	if n < 0 {
+		return 0, api.ErrArg
+	}
+	to := m.clock + min(n, api.MaxClock-m.clock)
+	for m.nextUntil() <= to {
+		m.clock = m.nextUntil()
+		m.endAll(api.Held, api.Lapsed)
+		m.promotion()
+		m.endAll(api.Waiting, api.Late)
+		m.promotion()
+	}
+	m.clock = to
+	return m.clock, api.OK
 }
 
 // sum is the units of all orders in a state, of one customer or, if that is 0, of all.
@@ -38,7 +101,7 @@ func (m *plain) sum(state, customer int) int {
 }
 
 func (m *plain) books() api.Books {
-	b := api.Books{Held: m.sum(api.Held, 0), Sold: m.sum(api.Sold, 0), Answers: len(m.frames)}
+	b := api.Books{Held: m.sum(api.Held, 0), Sold: m.sum(api.Sold, 0), Answers: m.remembered()}
 	b.Free = m.c.Stock - b.Held - b.Sold
 	for _, o := range m.orders {
 		if o.state == api.Waiting {
@@ -59,7 +122,7 @@ func (m *plain) hold(o *plainOrder) {
 			o.cents = tier.Cents
 		}
 	}
-	o.state, o.until = api.Held, m.c.Lease
+	o.state, o.until = api.Held, m.clock+m.c.Lease
 }
 
 func (m *plain) promotion() {
@@ -100,7 +163,7 @@ func (m *plain) ask(r api.Request) api.Reply {
 	if b.Waiting == m.c.Queue {
 		return re(api.Busy, 0, 0, 0)
 	}
-	o.state, o.until = api.Waiting, m.c.Wait
+	o.state, o.until = api.Waiting, m.clock+m.c.Wait
 	m.orders = append(m.orders, o)
 	return re(api.Queued, number, 0, o.until)
 }
@@ -110,10 +173,10 @@ func (m *plain) confirm(r api.Request) api.Reply {
 	if o == nil || o.state != api.Held {
 		return re(api.Gone, 0, 0, 0)
 	}
-	o.state = api.Sold
+	m.end(o, api.Sold)
 	for _, w := range m.orders {
 		if w.state == api.Waiting && w.units > m.c.Stock-m.sum(api.Sold, 0) {
-			w.state = api.Drained
+			m.end(w, api.Drained)
 		}
 	}
 	m.promotion()
@@ -125,7 +188,7 @@ func (m *plain) cancel(r api.Request) api.Reply {
 	if o == nil || o.state != api.Held && o.state != api.Waiting {
 		return re(api.Gone, 0, 0, 0)
 	}
-	o.state = api.Dropped
+	m.end(o, api.Dropped)
 	m.promotion()
 	return re(api.Cancelled, r.Order, 0, 0)
 }
@@ -139,6 +202,8 @@ func (m *plain) poll(r api.Request) api.Reply {
 		return re(api.Waiting, r.Order, 0, o.until)
 	case o.state == api.Held:
 		return re(api.Held, r.Order, o.cents, o.until)
+	case m.clock-o.ended >= m.c.Keep:
+		return re(api.Unknown, 0, 0, 0)
 	case o.state == api.Sold:
 		return re(api.Sold, r.Order, o.units*o.cents, 0)
 	}
@@ -153,13 +218,13 @@ func (m *plain) send(b []byte) api.Reply {
 	if r.Kind == api.Poll {
 		return m.poll(r)
 	}
-	if frame, used := m.frames[r.Token]; used {
-		if frame == string(b) {
-			return m.told[r.Token]
+	if m.remembers(r.Token) {
+		if a := m.answers[r.Token]; a.frame == string(b) {
+			return a.reply
 		}
 		return re(api.Conflict, 0, 0, 0)
 	}
-	if len(m.frames) == m.c.Tokens {
+	if m.remembered() == m.c.Tokens {
 		return re(api.Full, 0, 0, 0)
 	}
 	var reply api.Reply
@@ -171,7 +236,7 @@ func (m *plain) send(b []byte) api.Reply {
 	case api.Cancel:
 		reply = m.cancel(r)
 	}
-	m.frames[r.Token], m.told[r.Token] = string(b), reply
+	m.answers[r.Token] = plainAnswer{frame: string(b), reply: reply, given: m.clock}
 	return reply
 }
 
@@ -232,8 +297,18 @@ func (p *pair) want(r api.Request, want api.Reply) {
 	}
 }
 
-// look compares the books, all accounts and all orders, each also as seen by
-// another customer. It looks twice: to look changes nothing.
+// tick lets time go by, behind which the clock must be at a time.
+func (p *pair) tick(n, want int) {
+	p.t.Helper()
+	got, e := p.s.Tick(n)
+	if plain, _ := p.m.tick(n); got != want || e != api.OK || plain != want {
+		p.t.Fatalf("Tick(%d) = %d, %d, want %d (the plain sale: %d)", n, got, e, want, plain)
+	}
+	p.look()
+}
+
+// look compares the clock, the books, all accounts and all orders, each also
+// as seen by another customer. It looks twice: to look changes nothing.
 func (p *pair) look() {
 	p.t.Helper()
 	for range 2 {
@@ -259,6 +334,9 @@ func (p *pair) look() {
 
 func (p *pair) lookAtBooks() {
 	p.t.Helper()
+	if n := p.s.Clock(); n != p.m.clock {
+		p.t.Fatalf("Clock() = %d, want %d", n, p.m.clock)
+	}
 	if b, want := p.s.Books(), p.m.books(); b != want {
 		p.t.Fatalf("Books() = %+v, want %+v", b, want)
 	}

@@ -40,8 +40,7 @@ func (s *Sale) grant(r api.Request) api.Reply {
 
 func (s *Sale) enqueue(r api.Request) api.Reply {
 	o := s.newOrder(r)
-	o.until = s.clock + s.config.Wait
-	s.move(o, api.Waiting)
+	o = s.move(o, api.Waiting)
 	return api.Reply{Kind: api.Queued, Order: o.number, Until: o.until}
 }
 

@@ -14,30 +14,6 @@ func wide(stock, most int) api.Config {
 	}
 }
 
-// The document's sale, up to the first Tick.
-func TestP10ToP15Example(t *testing.T) {
-	p := openPair(t, rightConfig())
-	p.want(ask(1, 7, 3), re(api.Granted, 1, 100, 10))
-	p.want(ask(2, 8, 3), re(api.Queued, 2, 0, 20))
-	p.want(ask(3, 9, 1), re(api.Queued, 3, 0, 20))
-	p.want(ask(4, 9, 1), re(api.Busy, 0, 0, 0))
-	p.want(ask(5, 7, 2), re(api.OverCap, 0, 0, 0))
-	p.want(ask(1, 7, 3), re(api.Granted, 1, 100, 10))
-	p.want(ask(1, 7, 2), re(api.Conflict, 0, 0, 0))
-	p.books(2, 3, 0, 2, 5)
-	p.account(7, 3, 0, 0)
-	p.account(8, 0, 0, 3)
-	p.account(9, 0, 0, 1)
-	p.want(confirm(6, 7, 1), re(api.Confirmed, 1, 300, 0))
-	p.want(poll(8, 2), re(api.Drained, 2, 0, 0))
-	p.want(poll(9, 3), re(api.Held, 3, 150, 10))
-	p.want(poll(8, 3), re(api.Unknown, 0, 0, 0))
-	p.books(1, 1, 3, 0, 6)
-	p.account(7, 0, 3, 0)
-	p.account(8, 0, 0, 0)
-	p.account(9, 1, 0, 0)
-}
-
 func TestP11OverCap(t *testing.T) {
 	p := openPair(t, wide(10, 4))
 	p.want(ask(1, 1, 5), re(api.OverCap, 0, 0, 0))

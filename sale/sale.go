@@ -1,13 +1,17 @@
 // Package sale: a sale of few units to many customers: see DOC.md.
 package sale
 
-import "sale/api"
+import (
+	"sale/api"
+	"sale/wheel"
+)
 
 // Sale is a sale that goes on.
 type Sale struct {
 	config  api.Config // its Prices are a list of the sale's own
 	clock   int
-	last    int // the number of the newest order
+	last    int          // the number of the newest order
+	timers  *wheel.Wheel // by number: when an order's time in its state is over
 	orders  orders
 	queue   queue
 	ledger  ledger
@@ -23,7 +27,8 @@ func Open(c api.Config) (*Sale, api.Errno) {
 	// The caller may write into the list that was handed in.
 	prices := append([]api.Tier{}, c.Prices...)
 	c.Prices = prices
-	return &Sale{config: c}, api.OK
+	timers := wheel.New(0)
+	return &Sale{config: c, timers: timers, answers: newAnswers()}, api.OK
 }
 
 // Send answers a frame (P10 to P14).
@@ -52,7 +57,7 @@ func (s *Sale) answerOnce(r api.Request) api.Reply {
 		return api.Reply{Kind: api.Full}
 	}
 	reply := s.do(r)
-	s.answers.add(answer{request: r, reply: reply})
+	s.answers.add(answer{request: r, reply: reply}, s.clock+s.config.Keep)
 	return reply
 }
 
@@ -76,7 +81,18 @@ func (s *Sale) Account(customer int) (api.Account, api.Errno) {
 }
 
 // Tick lets time go by (P16).
-func (s *Sale) Tick(n int) (int, api.Errno) { return 0, api.OK }
+func (s *Sale) Tick(n int) (int, api.Errno) {
+	if n < 0 {
+		return 0, api.ErrArg
+	}
+	// The clock and n together may be more than an int can be.
+	to := api.MaxClock
+	if n < api.MaxClock-s.clock {
+		to = s.clock + n
+	}
+	s.goOn(to)
+	return s.clock, api.OK
+}
 
 // Clock tells the time (P16).
 func (s *Sale) Clock() int { return s.clock }

@@ -267,12 +267,25 @@ func drawRequest(r *rand.Rand, m *plain) api.Request {
 	return ask(token, 1+r.Intn(5), 1+r.Intn(1+r.Intn(7)))
 }
 
-func TestP10ToP15Drawn(t *testing.T) {
+// drawTick draws a time to go by, mostly a short one.
+func drawTick(r *rand.Rand) int {
+	if r.Intn(10) == 0 {
+		return r.Intn(40)
+	}
+	return r.Intn(4)
+}
+
+func TestP10ToP16Drawn(t *testing.T) {
 	r := rand.New(rand.NewSource(4))
 	met := map[int]int{}
 	for range 600 {
 		p := openPair(t, drawConfig(r))
+		quick := r.Intn(6) // how often time goes by
 		for range 80 {
+			if r.Intn(6) < quick {
+				n := drawTick(r)
+				p.tick(n, p.m.clock+n)
+			}
 			q := drawRequest(r, p.m)
 			met[p.send(q).Kind]++
 			if r.Intn(20) == 0 {
@@ -289,8 +302,7 @@ func TestP10ToP15Drawn(t *testing.T) {
 		}
 	}
 	for kind := api.Granted; kind <= api.Unknown; kind++ {
-		timed := kind == api.Lapsed || kind == api.Late
-		if met[kind] == 0 && !timed {
+		if met[kind] == 0 {
 			t.Errorf("no reply of kind %d was met: the draw is too narrow", kind)
 		}
 	}
@@ -299,7 +311,7 @@ func TestP10ToP15Drawn(t *testing.T) {
 // Many orders wait; one call moves them all. What took a step for each order
 // at each step would not come to an end here.
 func TestP12Many(t *testing.T) {
-	const n = 100000
+	const n = 50000
 	open := func() *sale.Sale {
 		c := wide(n, n)
 		c.Queue, c.Tokens = n, 3*n
